@@ -2,7 +2,10 @@ package tests
 
 import (
 	"bytes"
+	"slices"
 	"testing"
+
+	"loop.example/g00129/impl"
 )
 
 const spareBytes = 8
@@ -37,4 +40,67 @@ func sampleLists() [][]byte {
 		lists = append(lists, sampleBytes(uint32(n), n))
 	}
 	return append(lists, sampleBytes(7, 256), sampleBytes(8, 1000))
+}
+
+func equalGot(a impl.Got, b impl.Got) bool {
+	return a.Code == b.Code && a.Unit == b.Unit && bytes.Equal(a.Pdu, b.Pdu)
+}
+
+func equalGots(a []impl.Got, b []impl.Got) bool { return slices.EqualFunc(a, b, equalGot) }
+
+// cloneGots is a copy of what was told that shares nothing with it.
+func cloneGots(told []impl.Got) []impl.Got {
+	out := slices.Clone(told)
+	for i := range out {
+		out[i].Pdu = bytes.Clone(out[i].Pdu)
+	}
+	return out
+}
+
+// spoilGots writes over all that was told and the room behind it.
+func spoilGots(told []impl.Got) {
+	for _, got := range told {
+		spoil(got.Pdu)
+	}
+	told = told[:cap(told)]
+	for i := range told {
+		told[i] = impl.Got{Code: 99, Unit: 99, Pdu: []byte{99}}
+	}
+}
+
+// memoryOf tells where a line that hears keeps its bytes, and when two are the same.
+type memoryOf[L any] struct {
+	buf   func(*L) *[]byte
+	equal func(L, L) bool
+}
+
+// answersNewMemory asks the same thing three times, and writes over what is answered and what was handed in.
+func answersNewMemory[L any](t *testing.T, what string, plain L, memory memoryOf[L], ask func(L) (L, []impl.Got)) {
+	t.Helper()
+	in := plain
+	buf, unchanged := roomy(t, *memory.buf(&plain))
+	*memory.buf(&in) = buf
+	first, told := ask(in)
+	second, again := ask(in)
+	third, spare := ask(in)
+	unchanged(what)
+	was, wasTold := second, cloneGots(again)
+	*memory.buf(&was) = bytes.Clone(*memory.buf(&second))
+	spoil(*memory.buf(&first))
+	if !equalGots(told, wasTold) {
+		t.Errorf("%s of %v: what is told shares memory with what is heard then", what, plain)
+	}
+	spoilGots(told)
+	unchanged("what " + what + " answered")
+	if !memory.equal(second, was) || !equalGots(again, wasTold) {
+		t.Errorf("%s of %v: two answers share memory", what, plain)
+	}
+	spoilGots(again)
+	if !memory.equal(second, was) {
+		t.Errorf("%s of %v: what is heard then shares memory with what is told", what, plain)
+	}
+	spoil(buf)
+	if !memory.equal(third, was) || !equalGots(spare, wasTold) {
+		t.Errorf("%s of %v: an answer shares memory with the argument", what, plain)
+	}
 }

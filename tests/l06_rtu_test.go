@@ -21,10 +21,6 @@ func frameOf(unit int, pdu []byte) []byte {
 	return append(b, byte(sum%256), byte(sum/256))
 }
 
-func equalGot(a impl.Got, b impl.Got) bool {
-	return a.Code == b.Code && a.Unit == b.Unit && bytes.Equal(a.Pdu, b.Pdu)
-}
-
 func equalRtu(a impl.Rtu, b impl.Rtu) bool {
 	return bytes.Equal(a.Buf, b.Buf) && a.Last == b.Last && a.Bad == b.Bad && a.Half == b.Half && a.Whole == b.Whole
 }
@@ -714,62 +710,16 @@ func TestRtuReadsNothingBehind(t *testing.T) {
 	}
 }
 
-// cloneGots is a copy of what was told that shares nothing with it.
-func cloneGots(told []impl.Got) []impl.Got {
-	out := slices.Clone(told)
-	for i := range out {
-		out[i].Pdu = bytes.Clone(out[i].Pdu)
-	}
-	return out
-}
-
-// spoilGots writes over all that was told and the room behind it.
-func spoilGots(told []impl.Got) {
-	for _, got := range told {
-		spoil(got.Pdu)
-	}
-	told = told[:cap(told)]
-	for i := range told {
-		told[i] = impl.Got{Code: 99, Unit: 99, Pdu: []byte{99}}
-	}
-}
-
-// answersNewMemory asks the same thing three times, and writes over what is answered and what was handed in.
-func answersNewMemory(t *testing.T, what string, plain impl.Rtu, ask func(impl.Rtu) (impl.Rtu, []impl.Got)) {
-	t.Helper()
-	r := plain
-	buf, unchanged := roomy(t, plain.Buf)
-	r.Buf = buf
-	first, told := ask(r)
-	second, again := ask(r)
-	third, spare := ask(r)
-	unchanged(what)
-	was, wasTold := second, cloneGots(again)
-	was.Buf = bytes.Clone(second.Buf)
-	spoil(first.Buf)
-	if !slices.EqualFunc(told, wasTold, equalGot) {
-		t.Errorf("%s of %v: what is told shares memory with what is heard then", what, plain)
-	}
-	spoilGots(told)
-	unchanged("what " + what + " answered")
-	if !equalRtu(second, was) || !slices.EqualFunc(again, wasTold, equalGot) {
-		t.Errorf("%s of %v: two answers share memory", what, plain)
-	}
-	spoilGots(again)
-	if !equalRtu(second, was) {
-		t.Errorf("%s of %v: what is heard then shares memory with what is told", what, plain)
-	}
-	spoil(buf)
-	if !equalRtu(third, was) || !slices.EqualFunc(spare, wasTold, equalGot) {
-		t.Errorf("%s of %v: an answer shares memory with the argument", what, plain)
-	}
+var rtuMemory = memoryOf[impl.Rtu]{
+	buf:   func(r *impl.Rtu) *[]byte { return &r.Buf },
+	equal: equalRtu,
 }
 
 func TestRtuAnswersNewMemory(t *testing.T) {
 	for _, r := range append(rightRtus(), wrongRtus()...) {
 		for _, tick := range []int{r.Last, later(r.Last, 1), later(r.Last, 2), later(r.Last, 3), later(r.Last, 1000), -1, 0, lastTick, lastTick + 1} {
-			answersNewMemory(t, "RtuWait", r, func(r impl.Rtu) (impl.Rtu, []impl.Got) { return impl.RtuWait(r, tick) })
-			answersNewMemory(t, "RtuHear", r, func(r impl.Rtu) (impl.Rtu, []impl.Got) { return impl.RtuHear(r, 90, tick) })
+			answersNewMemory(t, "RtuWait", r, rtuMemory, func(r impl.Rtu) (impl.Rtu, []impl.Got) { return impl.RtuWait(r, tick) })
+			answersNewMemory(t, "RtuHear", r, rtuMemory, func(r impl.Rtu) (impl.Rtu, []impl.Got) { return impl.RtuHear(r, 90, tick) })
 		}
 		buf, unchanged := roomy(t, r.Buf)
 		r.Buf = buf
