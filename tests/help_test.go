@@ -46,36 +46,54 @@ func equalGot(a impl.Got, b impl.Got) bool {
 	return a.Code == b.Code && a.Unit == b.Unit && bytes.Equal(a.Pdu, b.Pdu)
 }
 
+func gotPdu(got *impl.Got) *[]byte { return &got.Pdu }
+
 func equalGots(a []impl.Got, b []impl.Got) bool { return slices.EqualFunc(a, b, equalGot) }
 
-// cloneGots is a copy of what was told that shares nothing with it.
-func cloneGots(told []impl.Got) []impl.Got {
+// memoryOf tells where what hears keeps its bytes, where what is told keeps them, and when two are the same.
+type memoryOf[L any, T any] struct {
+	buf       func(*L) *[]byte
+	pdu       func(*T) *[]byte
+	equal     func(L, L) bool
+	equalTold func(T, T) bool
+}
+
+// cloneTold is a copy of what was told that shares nothing with it.
+func (m memoryOf[L, T]) cloneTold(told []T) []T {
 	out := slices.Clone(told)
 	for i := range out {
-		out[i].Pdu = bytes.Clone(out[i].Pdu)
+		pdu := m.pdu(&out[i])
+		*pdu = bytes.Clone(*pdu)
 	}
 	return out
 }
 
-// spoilGots writes over all that was told and the room behind it.
-func spoilGots(told []impl.Got) {
-	for _, got := range told {
-		spoil(got.Pdu)
+// spoilTold writes over all that was told and the room behind it.
+func (m memoryOf[L, T]) spoilTold(told []T) {
+	for i := range told {
+		spoil(*m.pdu(&told[i]))
 	}
 	told = told[:cap(told)]
 	for i := range told {
-		told[i] = impl.Got{Code: 99, Unit: 99, Pdu: []byte{99}}
+		*m.pdu(&told[i]) = []byte{99}
 	}
 }
 
-// memoryOf tells where a line that hears keeps its bytes, and when two are the same.
-type memoryOf[L any] struct {
-	buf   func(*L) *[]byte
-	equal func(L, L) bool
+// partsTold writes over each list that was told, and wants the ones beside it as they were.
+func (m memoryOf[L, T]) partsTold(t *testing.T, what string, told []T) {
+	t.Helper()
+	was := m.cloneTold(told)
+	for i := range told {
+		spoil(*m.pdu(&told[i]))
+		if !slices.EqualFunc(told[i+1:], was[i+1:], m.equalTold) {
+			t.Errorf("%s: two lists that are told share memory", what)
+			return
+		}
+	}
 }
 
-// answersNewMemory asks the same thing three times, and writes over what is answered and what was handed in.
-func answersNewMemory[L any](t *testing.T, what string, plain L, memory memoryOf[L], ask func(L) (L, []impl.Got)) {
+// answersNewMemory asks the same thing four times, and writes over what is answered and what was handed in.
+func answersNewMemory[L any, T any](t *testing.T, what string, plain L, memory memoryOf[L, T], ask func(L) (L, []T)) {
 	t.Helper()
 	in := plain
 	buf, unchanged := roomy(t, *memory.buf(&plain))
@@ -83,24 +101,27 @@ func answersNewMemory[L any](t *testing.T, what string, plain L, memory memoryOf
 	first, told := ask(in)
 	second, again := ask(in)
 	third, spare := ask(in)
+	_, beside := ask(in)
 	unchanged(what)
-	was, wasTold := second, cloneGots(again)
+	equalTold := func(a []T, b []T) bool { return slices.EqualFunc(a, b, memory.equalTold) }
+	was, wasTold := second, memory.cloneTold(again)
 	*memory.buf(&was) = bytes.Clone(*memory.buf(&second))
+	memory.partsTold(t, what, beside)
 	spoil(*memory.buf(&first))
-	if !equalGots(told, wasTold) {
+	if !equalTold(told, wasTold) {
 		t.Errorf("%s of %v: what is told shares memory with what is heard then", what, plain)
 	}
-	spoilGots(told)
+	memory.spoilTold(told)
 	unchanged("what " + what + " answered")
-	if !memory.equal(second, was) || !equalGots(again, wasTold) {
+	if !memory.equal(second, was) || !equalTold(again, wasTold) {
 		t.Errorf("%s of %v: two answers share memory", what, plain)
 	}
-	spoilGots(again)
+	memory.spoilTold(again)
 	if !memory.equal(second, was) {
 		t.Errorf("%s of %v: what is heard then shares memory with what is told", what, plain)
 	}
 	spoil(buf)
-	if !memory.equal(third, was) || !equalGots(spare, wasTold) {
+	if !memory.equal(third, was) || !equalTold(spare, wasTold) {
 		t.Errorf("%s of %v: an answer shares memory with the argument", what, plain)
 	}
 }

@@ -710,9 +710,11 @@ func TestRtuReadsNothingBehind(t *testing.T) {
 	}
 }
 
-var rtuMemory = memoryOf[impl.Rtu]{
-	buf:   func(r *impl.Rtu) *[]byte { return &r.Buf },
-	equal: equalRtu,
+var rtuMemory = memoryOf[impl.Rtu, impl.Got]{
+	buf:       func(r *impl.Rtu) *[]byte { return &r.Buf },
+	pdu:       gotPdu,
+	equal:     equalRtu,
+	equalTold: equalGot,
 }
 
 func TestRtuAnswersNewMemory(t *testing.T) {

@@ -698,9 +698,11 @@ func TestAsciiReadsNothingBehind(t *testing.T) {
 	}
 }
 
-var asciiMemory = memoryOf[impl.Ascii]{
-	buf:   func(a *impl.Ascii) *[]byte { return &a.Buf },
-	equal: equalAscii,
+var asciiMemory = memoryOf[impl.Ascii, impl.Got]{
+	buf:       func(a *impl.Ascii) *[]byte { return &a.Buf },
+	pdu:       gotPdu,
+	equal:     equalAscii,
+	equalTold: equalGot,
 }
 
 func TestAsciiAnswersNewMemory(t *testing.T) {
