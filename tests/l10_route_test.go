@@ -1021,14 +1021,209 @@ func TestJoinedOfAWrongQuestion(t *testing.T) {
 	}
 }
 
-// A list of other questions is answered, too: no call panics.
-func TestJoinedOfPartsOfAnotherQuestion(t *testing.T) {
-	questions, all := partedQuestions()
-	for _, q := range questions {
-		for i, other := range questions {
-			a := impl.Joined(q, all[i], toldAll(other, all[i], allBits(33), sampleWords(229, 33)))
-			if a.Kind != q.Kind || a.Fault != 0 {
-				t.Errorf("of parts of %v, Joined tells %v to %v", other, a, q)
+// slowSuitsRead is Suits as chapter 4 words it, of what reads and an answer without a Fault.
+func slowSuitsRead(q impl.Req, a impl.Resp) bool {
+	if q.Kind > 2 {
+		return len(a.Words) == q.N
+	}
+	whole := q.N
+	for whole%8 != 0 {
+		whole++
+	}
+	return len(a.Bits) == whole && !slices.Contains(a.Bits[q.N:], true)
+}
+
+// slowJoined is Joined as chapter 10 words it, of a right question and parts that were told what suits them, and no
+// Fault; FaultDevice, where what is joined is no answer to q, since the parts are not of it.
+func slowJoined(q impl.Req, list []impl.Part, told []impl.Resp) impl.Resp {
+	if q.Kind != 23 && q.Kind > 4 {
+		return fitting(q)
+	}
+	a := impl.Resp{Kind: q.Kind}
+	for i, p := range list {
+		if q.Kind > 2 {
+			a.Words = append(a.Words, told[i].Words...)
+			continue
+		}
+		for n := 0; n < p.Req.N && n < len(told[i].Bits); n++ {
+			a.Bits = append(a.Bits, told[i].Bits[n])
+		}
+	}
+	for len(a.Bits)%8 != 0 {
+		a.Bits = append(a.Bits, false)
+	}
+	if !slowSuitsRead(q, a) {
+		return impl.Resp{Kind: q.Kind, Fault: impl.FaultDevice}
+	}
+	return a
+}
+
+// joinsSuiting wants of Joined what slowJoined tells, and that it suits q; it tells whether that is no Fault.
+func joinsSuiting(t *testing.T, q impl.Req, list []impl.Part, told []impl.Resp) bool {
+	t.Helper()
+	a, want := impl.Joined(q, list, told), slowJoined(q, list, told)
+	if !equalResp(a, want) {
+		t.Errorf("Joined(%v, %v, %v) is %v, not %v", q, list, told, a, want)
+	}
+	if !impl.Suits(q, a) {
+		t.Errorf("Joined(%v, %v, %v) is %v, which does not suit", q, list, told, a)
+	}
+	return a.Fault == 0
+}
+
+// joinQuestions gives right questions of every kind, from the fewest to the most places.
+func joinQuestions() []impl.Req {
+	var list []impl.Req
+	for _, k := range askKinds {
+		for _, n := range []int{1, 2, 3, 7, 8, 9, 16, 33, 124, 125, 126, k.most} {
+			if n <= k.most {
+				list = append(list, askAt(k.kind, 7, n))
+			}
+		}
+	}
+	return list
+}
+
+// partLists gives lists of parts of this question: whole, cut by rules, doubled, and without the first or the last.
+func partLists(q impl.Req) [][]impl.Part {
+	lists := [][]impl.Part{{{Port: 2, Unit: 2, Req: q}}}
+	for _, length := range []int{3, 5, 50, 300} {
+		if cut, fault := slowParts(cutRules([]int{spaceOf(q.Kind)}, length*20, length, noShift), 9, q); fault == 0 {
+			lists = append(lists, cut)
+		}
+	}
+	for _, l := range slices.Clone(lists) {
+		lists = append(lists, append(cloneParts(l), l...))
+		if len(l) > 1 {
+			lists = append(lists, l[1:], l[:len(l)-1])
+		}
+	}
+	return lists
+}
+
+// Whatever is told to a question suits it, of whatever list: one of it, of another one of its Kind, or of another Kind.
+func TestJoinedSuitsWhateverTheList(t *testing.T) {
+	bits, words := sampleBits(232, 4000), sampleWords(233, 4000)
+	joined, refused := map[int]int{}, map[int]int{}
+	for _, other := range joinQuestions() {
+		for _, list := range partLists(other) {
+			for _, told := range [][]impl.Resp{toldAll(other, list, bits, words), toldAll(other, list, allBits(4000), words), toldAll(other, list, make([]bool, 4000), words)} {
+				for _, q := range joinQuestions() {
+					if joinsSuiting(t, q, list, told) {
+						joined[q.Kind]++
+					} else {
+						refused[q.Kind]++
+					}
+				}
+			}
+		}
+	}
+	for _, k := range askKinds {
+		reads := k.kind <= 4 || k.kind == 23
+		if joined[k.kind] == 0 || (refused[k.kind] > 0) != reads {
+			t.Errorf("of Kind %d, %d were joined and %d were not", k.kind, joined[k.kind], refused[k.kind])
+		}
+	}
+}
+
+func TestJoinedOfAListThatIsNotOfTheQuestion(t *testing.T) {
+	one := func(kind int, at int, n int) impl.Part { return impl.Part{Port: 2, Unit: 2, Req: askAt(kind, at, n)} }
+	bits := func(on ...int) []bool {
+		b := make([]bool, 8)
+		for _, i := range on {
+			b[i] = true
+		}
+		return b
+	}
+	for _, k := range []struct {
+		what string
+		q    impl.Req
+		list []impl.Part
+		told []impl.Resp
+	}{
+		{"one bit for 126", askAt(2, 3, 126), []impl.Part{one(2, 3, 1)}, []impl.Resp{{Kind: 2, Bits: bits()}}},
+		{"six bits for 125", askAt(1, 9, 125), []impl.Part{one(1, 9, 5), one(1, 14, 1)}, []impl.Resp{{Kind: 1, Bits: bits(0, 4)}, {Kind: 1, Bits: bits()}}},
+		{"five words for one", askAt(4, 6, 1), []impl.Part{one(4, 6, 3), one(4, 9, 2)}, []impl.Resp{{Kind: 4, Words: []int{256, 0, 1}}, {Kind: 4, Words: []int{65535, 65535}}}},
+		{"coils for words", askAt(3, 0, 4), []impl.Part{one(1, 0, 4)}, []impl.Resp{{Kind: 1, Bits: bits(0)}}},
+		{"words for coils", askAt(1, 0, 4), []impl.Part{one(3, 0, 4)}, []impl.Resp{{Kind: 3, Words: []int{1, 2, 3, 4}}}},
+		{"a coil that was written for one that is read", askAt(1, 0, 1), []impl.Part{one(5, 0, 1)}, []impl.Resp{fitting(askAt(5, 0, 1))}},
+		{"one word for two", bothAt(0, 2, 0, 1), []impl.Part{{Unit: 1, Req: bothAt(0, 1, 0, 1)}}, []impl.Resp{{Kind: 23, Words: []int{1}}}},
+		{"a true bit behind the last one", askAt(1, 0, 3), []impl.Part{one(1, 0, 5)}, []impl.Resp{{Kind: 1, Bits: bits(3)}}},
+	} {
+		for i, p := range k.list {
+			if !impl.Suits(p.Req, k.told[i]) {
+				t.Errorf("%s: what is told does not suit the part %v", k.what, p)
+			}
+		}
+		joins(t, k.q, k.list, k.told, impl.Resp{Kind: k.q.Kind, Fault: impl.FaultDevice})
+	}
+}
+
+// One more or one fewer than was asked for is told only where bits that fill up make it suit.
+func TestJoinedOfOneMoreOrFewer(t *testing.T) {
+	for _, kind := range []int{1, 2} {
+		for n := 1; n <= 40; n++ {
+			for m := 1; m <= 40; m++ {
+				q, part := askAt(kind, 0, n), askAt(kind, 0, m)
+				list, sameBytes := []impl.Part{{Unit: 1, Req: part}}, (n+7)/8 == (m+7)/8
+				if got := joinsSuiting(t, q, list, []impl.Resp{fitting(part)}); got != (sameBytes && m <= n) {
+					t.Errorf("%d true bits are joined for %d: %v", m, n, got)
+				}
+				none := impl.Resp{Kind: kind, Bits: make([]bool, (m+7)/8*8)}
+				if got := joinsSuiting(t, q, list, []impl.Resp{none}); got != sameBytes {
+					t.Errorf("%d false bits are joined for %d: %v", m, n, got)
+				}
+			}
+		}
+	}
+	for _, kind := range []int{3, 4, 23} {
+		for _, n := range []int{1, 2, 3, 63, 123, 124, 125} {
+			for m := 1; m <= 125; m++ {
+				q, part := askAt(kind, 0, n), askAt(kind, 0, m)
+				if got := joinsSuiting(t, q, []impl.Part{{Unit: 1, Req: part}}, []impl.Resp{fitting(part)}); got != (m == n) {
+					t.Errorf("%d words are joined for %d: %v", m, n, got)
+				}
+			}
+		}
+	}
+}
+
+// What is joined may be more than any answer has: of 2000 bits or 125 words, and of one more.
+func TestJoinedPastTheMost(t *testing.T) {
+	for _, k := range askKinds {
+		if k.kind > 4 && k.kind != 23 {
+			continue
+		}
+		whole, last := askAt(k.kind, 0, k.most-1), askAt(k.kind, k.most-1, 1)
+		for times := range 4 {
+			list, told := []impl.Part{{Unit: 1, Req: whole}}, []impl.Resp{fitting(whole)}
+			for range times {
+				list, told = append(list, impl.Part{Unit: 2, Req: last}), append(told, fitting(last))
+			}
+			// bits that are one too few are filled up
+			want := times == 1 || times == 0 && k.kind <= 2
+			if got := joinsSuiting(t, askAt(k.kind, 0, k.most), list, told); got != want {
+				t.Errorf("of Kind %d, %d places and %d more are joined: %v", k.kind, k.most-1, times, got)
+			}
+		}
+		many := slices.Repeat([]impl.Part{{Unit: 1, Req: whole}}, 500)
+		if joinsSuiting(t, whole, many, slices.Repeat([]impl.Resp{fitting(whole)}, 500)) {
+			t.Errorf("of Kind %d, 500 parts are joined for one", k.kind)
+		}
+	}
+}
+
+// A Fault comes first, and is told as it is, of whatever list.
+func TestJoinedTellsAFaultOfAnotherList(t *testing.T) {
+	for _, other := range joinQuestions() {
+		list := []impl.Part{{Unit: 1, Req: other}, {Unit: 2, Req: other}}
+		for _, told := range [][]impl.Resp{
+			{fitting(other), {Kind: other.Kind, Fault: 6}},
+			{{Kind: other.Kind, Fault: 6}, fitting(other)},
+			{{Kind: other.Kind, Fault: 6}, {Kind: other.Kind, Fault: 2}},
+		} {
+			for _, q := range joinQuestions() {
+				joins(t, q, list, told, impl.Resp{Kind: q.Kind, Fault: 6})
 			}
 		}
 	}
