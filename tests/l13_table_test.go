@@ -103,8 +103,7 @@ func slowPend(p impl.Pend) bool {
 			return false
 		}
 	}
-	return told < len(p.Parts) && p.Source >= 0 && p.Source <= 1000000000 && p.Tag >= 0 && p.Tag <= 1000000000 &&
-		p.Unit >= 1 && p.Unit <= 247 && impl.ReqOk(p.Req)
+	return told < len(p.Parts) && p.Source >= 0 && p.Source <= 1000000000 && p.Tag >= 0 && p.Tag <= 1000000000 && impl.ReqOk(p.Req)
 }
 
 // slowTable is TableOk as chapter 13 words it: each pair of matters is asked.
@@ -344,7 +343,7 @@ func askedEdits() []pendEdit {
 	list := slices.Concat(
 		editsOf("Source", source, true, 0, 1, 999999999, mostId), editsOf("Source", source, false, far...),
 		editsOf("Tag", tag, true, 0, 1, 999999999, mostId), editsOf("Tag", tag, false, far...),
-		editsOf("Unit", unit, true, 1, 2, 128, 246, 247), editsOf("Unit", unit, false, noUnits...))
+		editsOf("Unit", unit, true, append([]int{1, 2, 128, 246, 247}, noUnits...)...))
 	for _, q := range wrongQuestions() {
 		list = append(list, pendEdit{fmt.Sprint("Req ", q), func(p *impl.Pend) { p.Req = q }, false})
 	}
@@ -477,6 +476,36 @@ func TestOpenOfWhatIsNotAsTold(t *testing.T) {
 		k.edit(&p)
 		for _, x := range []impl.Table{{}, {Next: 7}, tableOf(3, 3), tableOf(4, 15), {Next: mostId - 1}} {
 			opens(t, k.what, x, p, k.right)
+		}
+	}
+}
+
+// A matter's own Unit may be any number, and stays as it is; a part's may not.
+func TestAnyUnitOfAMatter(t *testing.T) {
+	for _, unit := range append([]int{-1, 0, 1, 247, 248}, farNumbers...) {
+		for i := range askKinds {
+			p := matterOf(0, i, 3)
+			p.Unit = unit
+			x, id, ok := impl.TableOpen(impl.Table{Next: 7}, p.Source, p.Tag, unit, p.Req, p.Parts)
+			p.Id = 7
+			want := impl.Table{Next: 8, List: []impl.Pend{p}}
+			if !ok || id != 7 || !equalTable(x, want) || !impl.TableOk(x) || impl.Waiting(x) != len(p.Parts) {
+				t.Errorf("opened under the unit %d: %v, %d, %v; %d wait", unit, x, id, ok, impl.Waiting(x))
+			}
+			for _, y := range beside(p) {
+				tableIs(t, fmt.Sprint("Unit ", unit), y.table, true)
+			}
+			for j := range len(p.Parts) {
+				wrong := clonePend(p)
+				for _, device := range []int{0, 248} {
+					wrong.Parts[j].Unit = device
+					keepsAll(t, fmt.Sprint("Unit of part ", j), impl.Table{Next: 8, List: []impl.Pend{wrong}})
+					opens(t, fmt.Sprint("Unit of part ", j), impl.Table{Next: 7}, wrong, false)
+				}
+			}
+			for _, order := range ordersOf(len(p.Parts)) {
+				repliedAtTheLast(t, want, 0, order, answersTo(p))
+			}
 		}
 	}
 }
@@ -877,7 +906,7 @@ func playTable(t *testing.T, b []byte) {
 	for i, c := range b {
 		if c%3 == 0 {
 			p := matterOf(0, int(c)+i%3, 1+int(c)/3%8)
-			p.Source, p.Tag = int(c)-9, i
+			p.Source, p.Tag, p.Unit = int(c)-9, i, farNumbers[int(c)/3%len(farNumbers)]
 			_, _, ok := slowOpen(x, p)
 			x = opens(t, "played", x, p, ok)
 			continue
